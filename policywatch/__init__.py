@@ -1,0 +1,1 @@
+"""A deployment monitor for agents that may recognise tests."""
