@@ -3,10 +3,7 @@
 from policywatch.beliefs import belief_in, candidates_of, harm_of, next_harm, suspects_of
 from policywatch.checks import require_candidates, require_policy, require_signal
 from policywatch.ratios import at_most
-
-
-def counted(indices):
-    return [len(indices)] + indices
+from policywatch.shapes import counted
 
 
 def candidates(monitor):

@@ -1,6 +1,6 @@
 """Which policies fit the log, and what is to be expected of them."""
 
-from policywatch.ratios import at_most, minus, plus, power, ratio, times
+from policywatch.ratios import at_most, minus, power, ratio, times, total
 from policywatch.rational import cheats_at, share_of_set
 
 BEHAVED = 0
@@ -45,10 +45,7 @@ def harm_of(monitor, index):
 
 
 def next_harm(monitor):
-    expected = (0, 1)
-    for index in candidates_of(monitor):
-        expected = plus(expected, times(belief_in(monitor, index), harm_of(monitor, index)))
-    return expected
+    return total([times(belief_in(monitor, index), harm_of(monitor, index)) for index in candidates_of(monitor)])
 
 
 def detection_of(monitor, index):

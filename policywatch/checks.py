@@ -3,6 +3,8 @@
 from policywatch.beliefs import candidates_of
 from policywatch.refusals import LogNotEmpty, NotThere, NoValue, OutsideLimits
 
+MOST_STAKE = 999
+
 
 def require_policy(monitor, index):
     if index >= len(monitor.policies):
@@ -22,6 +24,12 @@ def require_within(number, least, most):
 def require_fraction(num, den):
     require_within(den, 1, 99)
     require_within(num, 0, den)
+
+
+def require_stakes(first, second):
+    """Checks both stakes, or both prices, which have the same limits."""
+    require_within(first, 0, MOST_STAKE)
+    require_within(second, 0, MOST_STAKE)
 
 
 def require_empty_log(monitor):

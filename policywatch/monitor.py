@@ -2,9 +2,11 @@
 
 from policywatch.belief_calls import BELIEF_CALLS
 from policywatch.detection_calls import DETECTION_CALLS
+from policywatch.deterrence_calls import DETERRENCE_CALLS
 from policywatch.log_calls import LOG_CALLS
 from policywatch.permit_calls import PERMIT_CALLS
 from policywatch.policy_calls import POLICY_CALLS
+from policywatch.rational_calls import RATIONAL_CALLS
 from policywatch.refusals import NoSetting, Refusal
 from policywatch.setting_calls import SETTING_CALLS
 from policywatch.state import Monitor
@@ -12,8 +14,7 @@ from policywatch.state import Monitor
 RESET = 0
 CREATE_SETTING = 24
 
-# The form of every call of the interface is known, so that a call can be
-# passed over (and refused for want of a setting) whether it is written or not.
+# The calls that take nothing stand in none of these.
 TAKES_ONE_NUMBER = (2, 3, 4, 6, 10, 12, 15, 24, 30, 36)
 TAKES_TWO_NUMBERS = (1, 5, 16, 17, 18, 19, 22, 27, 28, 29, 41, 42)
 TAKES_ONE_LIST = (25, 26, 38, 39)
@@ -53,9 +54,11 @@ def handler_of(number):
         return DETECTION_CALLS[number]
     if number in PERMIT_CALLS:
         return PERMIT_CALLS[number]
-    if number in SETTING_CALLS:
-        return SETTING_CALLS[number]
-    raise NotImplementedError(f"call {number} is not written yet")
+    if number in RATIONAL_CALLS:
+        return RATIONAL_CALLS[number]
+    if number in DETERRENCE_CALLS:
+        return DETERRENCE_CALLS[number]
+    return SETTING_CALLS[number]
 
 
 def carry_out(handler, monitor, given):

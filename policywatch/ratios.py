@@ -28,6 +28,19 @@ def times(first, second):
     return ratio(first[0] * second[0], first[1] * second[1])
 
 
+def quotient(first, second):
+    """The first divided by the second, which is above 0."""
+    return ratio(first[0] * second[1], first[1] * second[0])
+
+
+def total(fractions):
+    """The sum of the fractions; 0 if there are none."""
+    whole = (0, 1)
+    for fraction in fractions:
+        whole = plus(whole, fraction)
+    return whole
+
+
 def power(base, exponent):
     """The base multiplied with itself; 1 for the exponent 0, even if the base is 0."""
     product = (1, 1)

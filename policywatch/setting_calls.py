@@ -1,12 +1,11 @@
-"""The calls that make and change the setting."""
+"""The calls that make, change and show the setting."""
 
-from policywatch.checks import require_empty_log, require_fraction, require_within
+from policywatch.checks import require_empty_log, require_fraction, require_stakes, require_within
 from policywatch.refusals import OutsideLimits, SettingExists
 from policywatch.state import Setting
 
 MOST_SIGNALS = 5
 MOST_WEIGHT = 99
-MOST_STAKE = 999
 
 
 def create_setting(monitor, signal_count):
@@ -49,13 +48,29 @@ def set_prior(monitor, num, den):
 
 
 def set_stakes(monitor, gain, loss):
-    require_within(gain, 0, MOST_STAKE)
-    require_within(loss, 0, MOST_STAKE)
+    require_stakes(gain, loss)
     setting = monitor.setting
     old = [setting.gain, setting.loss]
     setting.gain = gain
     setting.loss = loss
     return [0] + old
+
+
+def set_prices(monitor, harm_price, test_price):
+    require_stakes(harm_price, test_price)
+    setting = monitor.setting
+    old = [setting.harm_price, setting.test_price]
+    setting.harm_price = harm_price
+    setting.test_price = test_price
+    return [0] + old
+
+
+def get_settings(monitor):
+    setting = monitor.setting
+    prior = [setting.prior_num, setting.prior_den]
+    stakes = [setting.gain, setting.loss]
+    prices = [setting.harm_price, setting.test_price]
+    return [setting.signal_count] + prior + stakes + prices + setting.test_weights + setting.production_weights
 
 
 SETTING_CALLS = {
@@ -64,4 +79,6 @@ SETTING_CALLS = {
     26: set_production_weights,
     27: set_prior,
     28: set_stakes,
+    29: set_prices,
+    43: get_settings,
 }

@@ -16,6 +16,20 @@ class Setting:
         self.test_price = 1
 
 
+def copy_of(setting):
+    """A second setting that holds the same, so that one can change without the other."""
+    copied = Setting(setting.signal_count)
+    copied.test_weights = list(setting.test_weights)
+    copied.production_weights = list(setting.production_weights)
+    copied.prior_num = setting.prior_num
+    copied.prior_den = setting.prior_den
+    copied.gain = setting.gain
+    copied.loss = setting.loss
+    copied.harm_price = setting.harm_price
+    copied.test_price = setting.test_price
+    return copied
+
+
 class Policy:
     """A set of signals at which an agent cheats, and its relative prior probability."""
 

@@ -2,7 +2,7 @@
 
 import unittest
 
-from helper import HUGE, NUMBERS, Request, answers, assert_refused, flat, replies, started
+from helper import HUGE, NUMBERS, Request, answers, assert_refused, flat, replies, split, started
 
 EXAMPLE = [
     (("reset",), [0]),
@@ -21,7 +21,7 @@ EXAMPLE = [
     (("record_test", 1, 0), [-22]),
 ]
 
-# Every call of the interface, written or not, with arguments of its form.
+# Every call of the interface, with arguments of its form.
 ALL_CALLS = {
     0: [], 1: [0, 1], 2: [1], 3: [0], 4: [0], 5: [0, 0], 6: [0], 7: [], 8: [], 9: [],
     10: [0], 11: [], 12: [0], 13: [], 14: [], 15: [0], 16: [0, 1], 17: [1, 2], 18: [0, 0],
@@ -52,9 +52,17 @@ class FlatForm(unittest.TestCase):
             (("worst_candidate",), 3), (("is_detectable", 0), 1),
             (("policy_detection_probability", 1, 3), 3), (("tests_needed", 1, 2), 1),
             (("are_distinguishable", 0, 1), 1), (("permit", 1, 1), 3), (("permit_status",), 3),
-            (("set_prior", 1, 2), 3), (("set_stakes", 1, 1), 3), (("revoke_permit",), 3),
+            (("candidates_after_test", 0, 0), 2), (("counts",), 4), (("set_prior", 1, 2), 3),
+            (("set_stakes", 2, 1), 3), (("set_prices", 1, 1), 3), (("cheating_value", 0), 3),
+            (("cheating_signals",), 3), (("expected_profit",), 3), (("detection_probability",), 3),
+            (("harm_probability",), 3), (("total_cost",), 3), (("deterrent_prior_at", 0), 3),
+            (("deterrent_prior",), 3), (("preview_merge", [0, 0]), 5), (("cheapest_prior",), 5),
+            (("cheating_signals_for_prior", 0, 1), 3), (("cheating_signals_for_stakes", 1, 1), 1),
+            (("get_settings",), 11), (("revoke_permit",), 3),
             (("set_production_weights", [1, 1]), 1), (("undo_record",), 2), (("undo_record",), 2),
-            (("remove_policy", 0), 1), (("add_rational_policy", 1), 1), (("reset",), 1),
+            (("remove_policy", 0), 1), (("add_rational_policy", 1), 1), (("set_test_weights", [1, 1]), 1),
+            (("merge_signals", [0, 0]), 2), (("reset",), 1), (("create_setting", 5), 1),
+            (("get_settings",), 17),
         ]
         found = request.peek(*[call for call, count in shapes])
         self.assertEqual([len(answer) for answer in found], [count for call, count in shapes])
@@ -65,10 +73,21 @@ class FlatForm(unittest.TestCase):
 
     def test_lists_are_passed_over_by_their_length(self):
         for row in ([], [1], [1, 1], [0, 0, 0], [HUGE] * 8):
-            for name in ("set_test_weights", "set_production_weights"):
-                good = len(row) == 2
+            good = len(row) == 2
+            for name, answer in (("set_test_weights", [2]), ("set_production_weights", [2]),
+                                 ("preview_merge", [0, 1, 2, 0, 1]), ("merge_signals", [0])):
                 self.assertEqual(replies([("reset",), ("create_setting", 2), (name, row), ("get_log",)]),
-                                 [[0], [0], [2] if good else [-22], [0]])
+                                 [[0], [0], answer if good else [-22], [0]], (name, row))
+
+    def test_every_call_is_answered_behind_a_setting(self):
+        self.assertEqual(sorted(ALL_CALLS), sorted(NUMBERS.values()))
+        for number, given in ALL_CALLS.items():
+            if number not in (0, 24):
+                with self.subTest(number=number):
+                    found = split(answers([0, 24, 2, number] + given + [8]))
+                    self.assertEqual(len(found), 4)
+                    self.assertNotIn(found[2][0], (-11, -22))
+                    self.assertEqual(found[3], [0])
 
     def test_eighty_calls(self):
         self.assertEqual(answers([0, 24, 1] + [8] * 78), [1, 0] * 80)
@@ -92,8 +111,13 @@ class AheadOfASetting(unittest.TestCase):
     def test_this_check_comes_before_all_others(self):
         wrong = [("add_policy", HUGE, HUGE), ("get_policy", HUGE), ("record_test", HUGE, HUGE),
                  ("tests_needed", 1, 0), ("permit", 1, 0), ("set_test_weights", []), ("set_prior", 1, 0),
-                 ("create_setting", 0), ("revoke_permit",), ("undo_record",)]
+                 ("create_setting", 0), ("revoke_permit",), ("undo_record",), ("merge_signals", []),
+                 ("preview_merge", [HUGE] * 8), ("candidates_after_test", HUGE, HUGE), ("set_prices", HUGE, 0),
+                 ("cheating_value", HUGE), ("deterrent_prior_at", HUGE), ("cheating_signals_for_prior", 1, 0),
+                 ("cheating_signals_for_stakes", HUGE, HUGE)]
         self.assertEqual(replies(wrong), [[-11]] * len(wrong))
+        behind = [call for call in wrong if call[0] != "create_setting"]
+        self.assertEqual(replies([("reset",)] + behind), [[0]] + [[-11]] * len(behind))
 
     def test_a_create_setting_that_fails_makes_no_setting(self):
         for signal_count in (0, 6, HUGE):
@@ -110,10 +134,11 @@ class AheadOfASetting(unittest.TestCase):
 class SeveralResets(unittest.TestCase):
     def test_a_reset_takes_setting_policies_log_and_permit(self):
         request = started(2, ("set_test_weights", [1, 3]), ("set_production_weights", [2, 5]),
-                          ("set_prior", 1, 3), ("set_stakes", 4, 5), ("add_policy", 1, 7),
+                          ("set_prior", 1, 3), ("set_stakes", 4, 5), ("set_prices", 6, 7), ("add_policy", 1, 7),
                           ("permit", 1, 1), ("record_test", 0, 1), ("record_production", 1))
         self.assertEqual(request.ask("reset"), [0])
-        self.assertEqual(request.peek(("candidates",), ("get_log",), ("permit_status",)), [[-11]] * 3)
+        self.assertEqual(request.peek(("candidates",), ("get_log",), ("permit_status",), ("get_settings",)),
+                         [[-11]] * 4)
         self.assertEqual(request.ask("create_setting", 2), [0])
         self.assertEqual(request.seen(), started(2).seen())
 
@@ -132,7 +157,8 @@ class NothingIsKept(unittest.TestCase):
     def test_the_list_handed_in_is_not_changed(self):
         calls = flat([call for call, answer in EXAMPLE]
                      + [("set_production_weights", [4, 6]), ("set_production_weights", [1] * 8),
-                        ("undo_record",), ("reset",)])
+                        ("undo_record",), ("undo_record",), ("preview_merge", [1, 1]), ("merge_signals", [1, 1]),
+                        ("set_test_weights", [3, 4]), ("merge_signals", [1, 0]), ("get_settings",), ("reset",)])
         copy = list(calls)
         answers(calls)
         self.assertEqual(calls, copy)
@@ -147,7 +173,11 @@ class NothingIsKept(unittest.TestCase):
 
     def test_whole_numbers_are_never_true_or_false(self):
         request = Request(*[call for call, answer in EXAMPLE])
-        found = answers(flat(request.calls + [("is_detectable", 1), ("permit_status",), ("honest_belief",)]))
+        looks = flat([("is_detectable", 1), ("are_distinguishable", 1, 2), ("permit_status",), ("honest_belief",)])
+        for number, given in ALL_CALLS.items():
+            if number != 0:
+                looks += [number] + given
+        found = answers(flat(request.calls) + looks)
         self.assertEqual({type(number) for number in found}, {int})
 
 
@@ -163,7 +193,9 @@ class CreateSetting(unittest.TestCase):
         request = started(4, ("add_policy", 1, 1), ("add_policy", 14, 1))
         self.assertEqual(request.peek(("policy_detection_probability", 0, 1), ("worst_candidate",)),
                          [[0, 1, 4], [1, 3, 4]])
-        self.assertEqual(request.peek(("set_prior", 1, 3), ("set_stakes", 2, 3)), [[0, 1, 2], [0, 1, 1]])
+        self.assertEqual(request.peek(("set_prior", 1, 3), ("set_stakes", 2, 3), ("set_prices", 4, 5)),
+                         [[0, 1, 2], [0, 1, 1], [0, 1, 1]])
+        self.assertEqual(request.ask("get_settings"), [4, 1, 2, 1, 1, 1, 1] + [1] * 8)
         self.assertEqual(started(4).peek(("candidates",), ("get_log",), ("permit_status",)),
                          [[0], [0], [0, 0, 0]])
 
@@ -173,7 +205,7 @@ class CreateSetting(unittest.TestCase):
             assert_refused(self, request, -13, "create_setting", signal_count)
 
     def test_the_names_of_the_helper(self):
-        self.assertEqual(len(set(NUMBERS.values())), len(NUMBERS))
+        self.assertEqual(sorted(NUMBERS.values()), list(range(44)))
 
 
 if __name__ == "__main__":

@@ -1,8 +1,8 @@
-"""record_test, record_production, undo_record and get_log."""
+"""record_test, record_production, undo_record, get_log, candidates_after_test and counts."""
 
 import unittest
 
-from helper import HUGE, assert_refused, started, with_policies
+from helper import HUGE, assert_only_looks, assert_refused, started, with_policies
 
 
 def with_permit(signal_count, *policies):
@@ -192,6 +192,79 @@ class GetLog(unittest.TestCase):
 
     def test_a_full_log(self):
         self.assertEqual(with_full_log().ask("get_log"), [16, 0, 1] + [2, 0] * 15)
+
+
+class CandidatesAfterTest(unittest.TestCase):
+    def test_what_candidates_would_return(self):
+        request = with_policies(3, (0, 1), (1, 1), (3, 1), (6, 1))
+        assert_only_looks(self, request, [2, 0, 3], "candidates_after_test", 0, 0)
+        assert_only_looks(self, request, [2, 1, 2], "candidates_after_test", 0, 1)
+        request.ask("record_test", 1, 1)
+        assert_only_looks(self, request, [1, 3], "candidates_after_test", 0, 0)
+        assert_only_looks(self, request, [1, 2], "candidates_after_test", 0, 1)
+        assert_only_looks(self, request, [2, 2, 3], "candidates_after_test", 1, 1)
+
+    def test_no_candidate_would_be_left(self):
+        assert_only_looks(self, started(2), [0], "candidates_after_test", 1, 0)
+        assert_only_looks(self, started(2), [0], "candidates_after_test", 1, 1)
+        request = with_policies(2, (0, 1), (1, 1))
+        assert_only_looks(self, request, [0], "candidates_after_test", 1, 1)
+        request.ask("record_test", 0, 1)
+        assert_only_looks(self, request, [0], "candidates_after_test", 0, 0)
+        assert_only_looks(self, request, [1, 1], "candidates_after_test", 0, 1)
+
+    def test_a_full_log(self):
+        request = with_full_log()
+        assert_only_looks(self, request, [1, 0], "candidates_after_test", 0, 0)
+        assert_only_looks(self, request, [1, 1], "candidates_after_test", 0, 1)
+        assert_only_looks(self, request, [0], "candidates_after_test", 1, 1)
+
+    def test_no_such_signal(self):
+        request = with_policies(3, (0, 1))
+        for signal in (3, 4, HUGE):
+            assert_refused(self, request, -2, "candidates_after_test", signal, 0)
+            assert_refused(self, request, -2, "candidates_after_test", signal, 2)
+
+    def test_what_no_test_shows(self):
+        request = with_policies(3, (0, 1), (7, 1))
+        request.ask("set_test_weights", [1, 0, 2])
+        request.ask("set_production_weights", [0, 1, 1])
+        for cheated in (0, 1, 2):
+            assert_refused(self, request, -22, "candidates_after_test", 1, cheated)
+        for cheated in (2, 3, HUGE):
+            assert_refused(self, request, -22, "candidates_after_test", 0, cheated)
+        self.assertEqual(request.ask("candidates_after_test", 0, 1), [1, 1])
+        assert_refused(self, with_full_log(), -22, "candidates_after_test", 0, 2)
+
+
+class Counts(unittest.TestCase):
+    def test_each_kind_is_counted(self):
+        request = with_permit(3, (0, 1), (1, 1), (3, 1))
+        self.assertEqual(request.ask("counts"), [3, 0, 0, 0])
+        request.ask("record_test", 0, 1)
+        self.assertEqual(request.ask("counts"), [3, 1, 1, 0])
+        request.ask("record_test", 2, 0)
+        request.ask("record_test", 2, 0)
+        self.assertEqual(request.ask("counts"), [3, 3, 1, 0])
+        request.ask("record_production", 1)
+        assert_only_looks(self, request, [3, 3, 1, 1], "counts")
+        request.ask("undo_record")
+        request.ask("undo_record")
+        self.assertEqual(request.ask("counts"), [3, 2, 1, 0])
+
+    def test_policies_that_are_no_candidates_count(self):
+        request = with_policies(2, (0, 1), (1, 1))
+        request.ask("record_test", 0, 1)
+        self.assertEqual(request.ask("counts"), [2, 1, 1, 0])
+
+    def test_nothing_and_a_full_log(self):
+        self.assertEqual(started(2).ask("counts"), [0, 0, 0, 0])
+        self.assertEqual(with_full_log().ask("counts"), [2, 1, 0, 15])
+
+    def test_a_removed_policy(self):
+        request = with_policies(2, (0, 1), (1, 1))
+        request.ask("remove_policy", 0)
+        self.assertEqual(request.ask("counts"), [1, 0, 0, 0])
 
 
 if __name__ == "__main__":

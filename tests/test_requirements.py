@@ -7,6 +7,11 @@ from fractions import Fraction
 from helper import Request, random_calls, replies, with_policies
 
 
+CHANGING = ("reset", "add_policy", "add_rational_policy", "remove_policy", "record_test", "record_production",
+            "undo_record", "permit", "revoke_permit", "create_setting", "set_test_weights",
+            "set_production_weights", "set_prior", "set_stakes", "set_prices", "merge_signals")
+
+
 def candidates_in(request):
     return request.peek(("candidates",))[0][1:]
 
@@ -62,20 +67,35 @@ class Requirements(unittest.TestCase):
                 self.assertEqual(found, sorted(set(found)) if found[1] < 1 else [0] + [1] * 12)
 
     def check_log(self, request):
-        if request.peek(("get_log",)) != [[0]]:
+        if request.peek(("get_log",))[0][0] > 0:
             self.assertGreater(len(candidates_in(request)), 0, request.calls)
 
     def test_every_state_that_requests_reach(self):
+        with_log = 0
         for seed in range(60):
             request = Request()
-            for call in random_calls(random.Random(seed), 36):
+            for call in random_calls(random.Random(seed), 40):
                 request.ask(*call)
-                if call[0] in ("record_test", "remove_policy", "undo_record", "set_production_weights"):
+                if call[0] in CHANGING:
                     self.check_indistinguishable_policies(request)
                     self.check_beliefs(request)
                     self.check_consistent_candidates(request)
                     self.check_log(request)
+                    with_log += len(tests_in(request)) > 0
             self.check_detection(request)
+        self.assertGreater(with_log, 300)
+
+    def test_only_the_calls_that_change_something_do(self):
+        looks = 0
+        for seed in range(300, 340):
+            request = Request()
+            for call in random_calls(random.Random(seed), 44):
+                before = request.seen()
+                answer = request.ask(*call)
+                if answer[0] < 0 or call[0] not in CHANGING:
+                    looks += 1
+                    self.assertEqual(request.seen(), before, request.calls)
+        self.assertGreater(looks, 500)
 
     def test_production_was_permitted(self):
         succeeded = 0

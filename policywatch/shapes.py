@@ -1,0 +1,6 @@
+"""The shapes of answers that several calls share."""
+
+
+def counted(found):
+    """How many there are, then these."""
+    return [len(found)] + found
